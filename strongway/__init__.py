@@ -1,0 +1,1 @@
+"""Strongway: who is chosen by the strongest ways of likings."""

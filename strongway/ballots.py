@@ -29,15 +29,24 @@ def demand_choice(count, number):
         raise NoChoice("not one of the choices")
 
 
+def demand_both(count, one, other):
+    demand_choice(count, one)
+    demand_choice(count, other)
+
+
 def lifted(count, ballot, one):
     demand_ballot(count, ballot)
     demand_choice(count, one)
-    # The groups are copied, so that the answer shares no list with what was handed in.
-    groups = [list(group) for group in ballot]
+    groups = copied(ballot)
     place = place_of(groups, one)
     if place == len(groups):
         return lifted_from_unnamed(count, groups, one)
     return lifted_from_group(groups, place, one)
+
+
+def copied(ballot):
+    # The groups are copied too, so that no list is shared with what was handed in.
+    return [list(group) for group in ballot]
 
 
 def place_of(groups, one):

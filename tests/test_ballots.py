@@ -3,30 +3,9 @@
 import copy
 import unittest
 
+from samples import HUNDRED_FIGURES, NO_BALLOTS_OF_THREE, NO_CHOICES_OF_THREE, Refusing
 from strongway.ballots import is_ballot, lifted
 from strongway.errors import NoBallot, NoChoice
-
-HUNDRED_FIGURES = 10 ** 99
-NO_BALLOTS_OF_THREE = (
-    [[]],
-    [[], [0]],
-    [[0], [], [1]],
-    [[0], []],
-    [[0, 0]],
-    [[0, 1, 0]],
-    [[0], [0]],
-    [[0], [1], [2], [0]],
-    [[0, 1], [2, 1]],
-    [[-1]],
-    [[0], [1, -1]],
-    [[3]],
-    [[0, 3]],
-    [[0], [1], [2], [3]],
-    [[HUNDRED_FIGURES]],
-    [[0, HUNDRED_FIGURES]],
-    [[-HUNDRED_FIGURES]],
-    [[0], [-HUNDRED_FIGURES]],
-)
 
 
 class IsBallot(unittest.TestCase):
@@ -134,37 +113,30 @@ class Lifted(unittest.TestCase):
         self.assertEqual(lifted(count=2, ballot=[[1, 0]], one=0), [[0], [1]])
 
 
-class LiftedRefuses(unittest.TestCase):
-    def refuse(self, error, count, ballot, one):
-        with self.subTest(count=count, ballot=ballot, one=one):
-            before = copy.deepcopy(ballot)
-            with self.assertRaises(error):
-                lifted(count, ballot, one)
-            self.assertEqual(ballot, before)
-
+class LiftedRefuses(Refusing):
     def test_no_ballot(self):
         for ballot in NO_BALLOTS_OF_THREE:
             for one in range(3):
-                self.refuse(NoBallot, 3, ballot, one)
+                self.refuse(NoBallot, lifted, 3, ballot, one)
 
     def test_no_ballot_ahead_of_no_choice(self):
         for ballot in NO_BALLOTS_OF_THREE:
             for one in (-1, 3, HUNDRED_FIGURES):
-                self.refuse(NoBallot, 3, ballot, one)
+                self.refuse(NoBallot, lifted, 3, ballot, one)
 
     def test_no_ballot_ahead_of_no_choice_without_choices(self):
         for one in (-1, 0, HUNDRED_FIGURES):
-            self.refuse(NoBallot, 0, [[]], one)
-            self.refuse(NoBallot, 0, [[0]], one)
+            self.refuse(NoBallot, lifted, 0, [[]], one)
+            self.refuse(NoBallot, lifted, 0, [[0]], one)
 
     def test_no_choice(self):
         for ballot in ([], [[0]], [[0, 1], [2]], [[2], [1]]):
-            for one in (-1, -3, 3, 4, HUNDRED_FIGURES, -HUNDRED_FIGURES):
-                self.refuse(NoChoice, 3, ballot, one)
+            for one in NO_CHOICES_OF_THREE:
+                self.refuse(NoChoice, lifted, 3, ballot, one)
 
     def test_without_choices_every_number_is_none(self):
         for one in (-1, 0, 1, HUNDRED_FIGURES, -HUNDRED_FIGURES):
-            self.refuse(NoChoice, 0, [], one)
+            self.refuse(NoChoice, lifted, 0, [], one)
 
 
 class LiftedKeepsNothing(unittest.TestCase):

@@ -1,10 +1,14 @@
 """Every list of groups over a few numbers, held against the document's words, worked out in another way."""
 
+import random
 import unittest
-from itertools import permutations, product
+from itertools import combinations, combinations_with_replacement, permutations, product
 
 from strongway.ballots import is_ballot, lifted
+from strongway.choosing import chosen, is_ahead, layers
+from strongway.notes import read, shown
 from strongway.tables import likings, links
+from strongway.ways import strengths, strongest
 
 
 def every_ballot(count):
@@ -46,6 +50,65 @@ def counted_links(count, ballots):
     for one in range(count):
         answer.append([table[one][other] if table[one][other] > table[other][one] else 0 for other in range(count)])
     return answer
+
+
+def every_way(count, one, other):
+    between = [choice for choice in range(count) if choice not in (one, other)]
+    for length in range(len(between) + 1):
+        for middle in permutations(between, length):
+            yield [one, *middle, other]
+
+
+def way_strength(table, way):
+    return min(table[start][goal] for start, goal in zip(way, way[1:]))
+
+
+def tried_strength(table, one, other):
+    if one == other:
+        return 0
+    return max(way_strength(table, way) for way in every_way(len(table), one, other))
+
+
+def tried_strengths(count, ballots):
+    table = counted_links(count, ballots)
+    return [[tried_strength(table, one, other) for other in range(count)] for one in range(count)]
+
+
+def is_wall(table, strength, wall, one, other):
+    if wall != sorted(set(wall)) or one not in wall or other in wall:
+        return False
+    outside = [choice for choice in range(len(table)) if choice not in wall]
+    return all(table[start][goal] <= strength for start in wall for goal in outside)
+
+
+def layers_by_definition(table):
+    left = set(range(len(table)))
+    answer = []
+    while left:
+        layer = {one for one in left if all(table[one][other] >= table[other][one] for other in left)}
+        answer.append(sorted(layer))
+        left -= layer
+    return answer
+
+
+def small_ballots(count):
+    """Every ballot of so many choices that tells something else than the others."""
+    found = {}
+    for ballot in every_ballot(count):
+        found.setdefault(str(counted_likings(count, [ballot])), ballot)
+    return list(found.values())
+
+
+def some_elections(many):
+    """Ballots of four or five choices, drawn by a fixed seed, with some of them several times."""
+    chance = random.Random(7)
+    drawn = {count: every_ballot(count) for count in (4, 5)}
+    for turn in range(many):
+        count = chance.choice((4, 5, 5))
+        ballots = []
+        for ballot in chance.sample(drawn[count], chance.randrange(2, 8)):
+            ballots.extend([ballot] * chance.randrange(1, 5))
+        yield count, ballots
 
 
 def without(ballot, one):
@@ -118,6 +181,83 @@ class Tables(unittest.TestCase):
             ballots = every[start::29]
             self.assertEqual(likings(4, ballots), counted_likings(4, ballots))
             self.assertEqual(links(4, ballots), counted_links(4, ballots))
+
+
+class Ways(unittest.TestCase):
+    def check(self, count, ballots):
+        table = tried_strengths(count, ballots)
+        self.assertEqual(strengths(count, ballots), table, (count, ballots))
+        self.assertEqual(layers(count, ballots), layers_by_definition(table), (count, ballots))
+        self.assertEqual(chosen(count, ballots), (layers_by_definition(table) + [[]])[0], (count, ballots))
+        return table
+
+    def check_each_pair(self, count, ballots):
+        table = self.check(count, ballots)
+        linked = counted_links(count, ballots)
+        for one, other in product(range(count), repeat=2):
+            ahead = table[one][other] > table[other][one]
+            self.assertIs(is_ahead(count, ballots, one, other), ahead, (ballots, one, other))
+            if one != other:
+                self.check_shown(linked, table[one][other], strongest(count, ballots, one, other), one, other)
+
+    def check_shown(self, linked, wanted, answer, one, other):
+        strength, way, wall = answer
+        self.assertEqual(strength, wanted)
+        self.assertTrue(is_wall(linked, strength, wall, one, other), (linked, wall, one, other))
+        if strength == 0:
+            self.assertEqual(way, [])
+        else:
+            self.assertIn(way, list(every_way(len(linked), one, other)))
+            self.assertEqual(way_strength(linked, way), strength, (linked, way))
+
+    def test_every_ballot_by_itself(self):
+        for count in range(5):
+            for ballot in every_ballot(count):
+                self.check(count, [ballot])
+
+    def test_every_two_ballots_of_three_choices(self):
+        for pair in product(every_ballot(3), repeat=2):
+            self.check(3, list(pair))
+
+    def test_every_few_ballots_of_up_to_three_choices(self):
+        for count in range(4):
+            for many in range(5):
+                for ballots in combinations_with_replacement(small_ballots(count), many):
+                    self.check_each_pair(count, list(ballots))
+
+    def test_every_three_ballots_of_four_choices_one_by_one(self):
+        orders = [[[choice] for choice in order] for order in permutations(range(4))]
+        for ballots in combinations(orders, 3):
+            self.check(4, list(ballots))
+
+    def test_some_elections(self):
+        seen = []
+        for count, ballots in some_elections(500):
+            self.check_each_pair(count, ballots)
+            seen.append(strengths(count, ballots) != links(count, ballots))
+        self.assertGreater(sum(seen), 100)
+
+    def test_ahead_of_one_that_is_ahead_of_a_third(self):
+        for count, ballots in some_elections(60):
+            table = tried_strengths(count, ballots)
+            for one, other, third in permutations(range(count), 3):
+                if table[one][other] > table[other][one] and table[other][third] > table[third][other]:
+                    self.assertIs(is_ahead(count, ballots, one, third), True)
+
+
+class Lines(unittest.TestCase):
+    def test_every_ballot_is_written_and_read_back(self):
+        for count in range(6):
+            lines = {}
+            for ballot in every_ballot(count):
+                line = shown(ballot)
+                self.assertEqual(read(count, line), ballot)
+                lines[line] = True
+            self.assertEqual(len(lines), len(every_ballot(count)))
+
+    def test_lines_read_with_more_choices_than_they_name(self):
+        for ballot in every_ballot(4):
+            self.assertEqual(read(104, shown(ballot)), ballot)
 
 
 if __name__ == "__main__":

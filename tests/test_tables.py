@@ -3,20 +3,10 @@
 import copy
 import unittest
 
+from samples import Refusing, turned_ballots
 from strongway.errors import NoBallot
 from strongway.tables import likings, links
 
-HUNDRED_FIGURES = 10 ** 99
-NO_BALLOTS_OF_THREE = (
-    [[]],
-    [[0], []],
-    [[0, 0]],
-    [[0], [1], [0]],
-    [[-1]],
-    [[0, 3]],
-    [[HUNDRED_FIGURES]],
-    [[-HUNDRED_FIGURES]],
-)
 THREE = [[[0], [1], [2]], [[1, 2]], [[2], [0]], []]
 THREE_LIKINGS = [[0, 2, 1], [1, 0, 1], [2, 1, 0]]
 THREE_LINKS = [[0, 2, 0], [0, 0, 0], [2, 0, 0]]
@@ -101,30 +91,10 @@ class Tables(unittest.TestCase):
         self.assertEqual(links(count=2, ballots=[[[1]]]), [[0, 0], [1, 0]])
 
 
-class Refusals(unittest.TestCase):
-    def refuse(self, count, ballots):
-        before = copy.deepcopy(ballots)
-        for told in (likings, links):
-            with self.subTest(told=told.__name__, count=count, ballots=ballots):
-                with self.assertRaises(NoBallot):
-                    told(count, ballots)
-                self.assertEqual(ballots, before)
-
-    def test_no_ballot_first_in_the_middle_and_last(self):
-        for wrong in NO_BALLOTS_OF_THREE:
-            self.refuse(3, [wrong])
-            self.refuse(3, [wrong, [[0]], [[1, 2]]])
-            self.refuse(3, [[[0]], wrong, [[1, 2]]])
-            self.refuse(3, [[[0]], [[1, 2]], wrong])
-
-    def test_without_choices(self):
-        for wrong in ([[]], [[0]], [[-1]]):
-            self.refuse(0, [wrong])
-            self.refuse(0, [[], wrong, []])
-
-    def test_one_choice(self):
-        for wrong in ([[]], [[1]], [[0, 0]], [[0], [0]]):
-            self.refuse(1, [[[0]], wrong])
+class Refusals(Refusing):
+    def test_no_ballot(self):
+        self.refuse_wrong_ballots(NoBallot, likings)
+        self.refuse_wrong_ballots(NoBallot, links)
 
 
 class NothingIsKept(unittest.TestCase):
@@ -170,11 +140,6 @@ class NothingIsKept(unittest.TestCase):
         ballots = [ballot, ballot, ballot]
         self.assertEqual(likings(3, ballots), [[0, 0, 3], [3, 0, 3], [0, 0, 0]])
         self.assertEqual(ballot, [[1], [0]])
-
-
-def turned_ballots(count, many):
-    """Ballots that name all choices, one by one, each beginning one choice later than the ballot ahead of it."""
-    return [[[(turn + step) % count] for step in range(count)] for turn in range(many)]
 
 
 class Size(unittest.TestCase):
